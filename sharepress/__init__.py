@@ -1,0 +1,1 @@
+"""Sharepress: texts pressed into bits by the shares of their signs."""
