@@ -1,5 +1,6 @@
 """Pressing: the shortest row of bits whose part lies within a range."""
 
+from sharepress.bits import figures
 from sharepress.ranges import span_ended
 from sharepress.shares import check_model
 
@@ -13,10 +14,6 @@ def least_number(span, length):
 def ends_within(span, length, number):
     low, wide, whole = span
     return (number + 1) * whole <= (low + wide) << length
-
-
-def figures(number, length):
-    return [(number >> place) & 1 for place in range(length - 1, -1, -1)]
 
 
 def shortest_row(span):

@@ -8,6 +8,9 @@ from sharepress.errors import BadModel, NoShare
 
 KINDS = ("known", "learnt")
 
+# What stands for the end where a sign could stand too.
+END = ""
+
 
 def is_sign(text):
     # The length is asked too, as "ab" also lies between "a" and "z".
@@ -66,6 +69,17 @@ def place_of_end(model):
     kind, shares, end = model
     total = total_share(model)
     return (total - end, end, total)
+
+
+def share_at(model, point):
+    kind, shares, end = model
+    total = total_share(model)
+    first = 0
+    for sign, share in shares:
+        if point < first + share:
+            return (sign, (first, share, total))
+        first += share
+    return (END, (first, end, total))
 
 
 def grown(share, others):

@@ -5,7 +5,8 @@ import unittest
 from sharepress.errors import BadModel, NoShare, PressError
 from sharepress.pressing import all_pressed
 from sharepress.ranges import span_ended
-from tests.helpers import TAKERS, known, learnt
+from sharepress.reading import read
+from tests.helpers import TAKERS, TEXT_TAKERS, known, learnt
 
 NO_MODELS = {
     "another kind": ("even", [("a", 1)], 1),
@@ -71,6 +72,13 @@ class NoModel(unittest.TestCase):
                 with self.assertRaises(BadModel):
                     all_pressed(model, [])
 
+    def test_it_is_refused_with_no_pieces_and_ahead_of_no_bit(self):
+        for way, model in NO_MODELS.items():
+            for pieces in ([], [[]], [[2]], [[0, 1], [-1]]):
+                with self.subTest(way=way, pieces=pieces):
+                    with self.assertRaises(BadModel):
+                        read(model, pieces)
+
     def test_the_refusal_is_a_press_error(self):
         for name, taker in TAKERS.items():
             with self.subTest(function=name):
@@ -90,14 +98,14 @@ class NoModel(unittest.TestCase):
 class NoShareForASign(unittest.TestCase):
     def test_a_sign_that_the_model_does_not_have(self):
         for model in (known(), learnt()):
-            for name, taker in TAKERS.items():
+            for name, taker in TEXT_TAKERS.items():
                 for text in ("c", "abc", "cab", "aca", "A", "a b", " ", "\u00e4", "1", "a\n"):
                     with self.subTest(model=model, function=name, text=text):
                         with self.assertRaises(NoShare):
                             taker(model, text)
 
     def test_the_refusal_is_a_press_error(self):
-        for name, taker in TAKERS.items():
+        for name, taker in TEXT_TAKERS.items():
             with self.subTest(function=name):
                 with self.assertRaises(PressError):
                     taker(known(), "c")
@@ -110,7 +118,7 @@ class NoShareForASign(unittest.TestCase):
 
     def test_the_empty_text_is_a_text(self):
         for model in (known(), learnt()):
-            for name, taker in TAKERS.items():
+            for name, taker in TEXT_TAKERS.items():
                 with self.subTest(model=model, function=name):
                     taker(model, "")
 

@@ -4,7 +4,7 @@ import unittest
 
 from sharepress.errors import BadModel, NoShare
 from sharepress.pressing import all_pressed
-from tests.helpers import TAKERS, small_models
+from tests.helpers import TAKERS, TEXT_TAKERS, small_models
 
 TEXTS = ["", "a", "aa", "aaaa"]
 
@@ -32,11 +32,11 @@ class Unchanged(unittest.TestCase):
                 self.assertEqual(texts, TEXTS)
 
     def test_where_it_is_refused(self):
-        for name, taker in TAKERS.items():
-            for model, text, error in (
-                (("learnt", [("a", 1), ("b", 1)], 1), "abq", NoShare),
-                (("learnt", [("b", 9), ("a", 1)], 1), "ab", BadModel),
-            ):
+        for model, text, error, takers in (
+            (("learnt", [("a", 1), ("b", 1)], 1), "abq", NoShare, TEXT_TAKERS),
+            (("learnt", [("b", 9), ("a", 1)], 1), "ab", BadModel, TAKERS),
+        ):
+            for name, taker in takers.items():
                 with self.subTest(function=name, error=error):
                     def refused():
                         with self.assertRaises(error):
